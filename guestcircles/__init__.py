@@ -1,0 +1,1 @@
+"""Groups among guests: circles in which all know one another."""

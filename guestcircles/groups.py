@@ -1,0 +1,70 @@
+"""Groups among guests, each group told as bits: bit 0 for guest 0."""
+
+NOT_AS_TOLD = -22
+MOST_GUESTS = 8
+MOST_PAIRS = 28
+
+
+def circle(n, pairs):
+    """How many the largest circle has, then it, of like ones the least number; or -22 alone."""
+    if not is_as_told(n, pairs):
+        return [NOT_AS_TOLD]
+    group = largest_circle(known_by_each(n, pairs))
+    return [how_many(group), group]
+
+
+def is_as_told(n, pairs):
+    """Whether there are 1 to 8 guests, and each pair is of two different ones of them."""
+    if n < 1 or n > MOST_GUESTS:
+        return False
+    if len(pairs) % 2 == 1 or len(pairs) > 2 * MOST_PAIRS:
+        return False
+    for one, other in in_twos(pairs):
+        if one >= n or other >= n or one == other:
+            return False
+    return True
+
+
+def in_twos(pairs):
+    """The pairs, two guests each, out of the list that has one pair behind another."""
+    return list(zip(pairs[0::2], pairs[1::2]))
+
+
+def known_by_each(n, pairs):
+    """For each guest, as bits, those whom that guest knows."""
+    known = [0] * n
+    for one, other in in_twos(pairs):
+        # A bit set again stays set, so a pair told twice counts once.
+        known[one] |= 1 << other
+        known[other] |= 1 << one
+    return known
+
+
+def largest_circle(known):
+    """The largest group in which everybody knows everybody else, of like ones the least number."""
+    largest = 0
+    for group in range(1, 1 << len(known)):
+        # Numbers rise, so only a larger group may take the place of an earlier one.
+        if how_many(group) > how_many(largest) and is_circle(group, known):
+            largest = group
+    return largest
+
+
+def is_circle(group, known):
+    """Whether everybody in the group knows everybody else in it."""
+    for guest, friends in enumerate(known):
+        oneself = 1 << guest
+        if group & oneself > 0:
+            others = group - oneself
+            if others & friends != others:
+                return False
+    return True
+
+
+def how_many(group):
+    """How many guests are in the group."""
+    found = 0
+    while group > 0:
+        found += group & 1
+        group >>= 1
+    return found
