@@ -1,1 +1,1 @@
-"""Groups among guests: circles in which all know one another."""
+"""Groups among guests: circles, in which all know one another, and strangers, of whom nobody knows anybody."""

@@ -13,6 +13,15 @@ def circle(n, pairs):
     return [how_many(group), group]
 
 
+def strange(n, pairs):
+    """How many the largest group of strangers has, then it, of like ones the least number; or -22 alone."""
+    if not is_as_told(n, pairs):
+        return [NOT_AS_TOLD]
+    # Strangers would be a circle if just those knew one another who now don't.
+    group = largest_circle(unknown_to_each(known_by_each(n, pairs)))
+    return [how_many(group), group]
+
+
 def is_as_told(n, pairs):
     """Whether there are 1 to 8 guests, and each pair is of two different ones of them."""
     if n < 1 or n > MOST_GUESTS:
@@ -38,6 +47,16 @@ def known_by_each(n, pairs):
         known[one] |= 1 << other
         known[other] |= 1 << one
     return known
+
+
+def unknown_to_each(known):
+    """For each guest, as bits, those others whom that guest doesn't know."""
+    everybody = (1 << len(known)) - 1
+    unknown = []
+    for guest, friends in enumerate(known):
+        oneself = 1 << guest
+        unknown.append(everybody - oneself - friends)
+    return unknown
 
 
 def largest_circle(known):

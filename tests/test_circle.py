@@ -3,22 +3,8 @@
 import itertools
 import unittest
 
+from common import AllAsked, acquaintances_by_rules, acquaintances_of_up_to_five, all_pairs, bits, flat
 from guestcircles.groups import circle
-
-REFUSED = [-22]
-
-
-def flat(pairs):
-    """The pairs as they are handed over: two guests for each, one pair behind another."""
-    return [guest for pair in pairs for guest in pair]
-
-
-def all_pairs(guests):
-    return list(itertools.combinations(guests, 2))
-
-
-def bits(group):
-    return sum(2 ** guest for guest in group)
 
 
 def searched(n, pairs):
@@ -33,16 +19,6 @@ def searched(n, pairs):
         if circles:
             return [size, min(circles)]
     raise AssertionError("one guest is always a circle")
-
-
-class Unchanging(list):
-    """A list that fails on any change, also on one that is taken back later."""
-
-    def refuse(self, *args, **kwargs):
-        raise AssertionError("what is handed in was changed")
-
-    append = clear = extend = insert = pop = remove = reverse = sort = refuse
-    __setitem__ = __delitem__ = __iadd__ = __imul__ = refuse
 
 
 class Ordinary(unittest.TestCase):
@@ -83,21 +59,12 @@ class Ordinary(unittest.TestCase):
 
 class AgainstPlainSearch(unittest.TestCase):
     def test_all_acquaintances_of_up_to_five_guests(self):
-        for n in range(1, 6):
-            possible = all_pairs(range(n))
-            for told in range(2 ** len(possible)):
-                pairs = [pair for place, pair in enumerate(possible) if told >> place & 1]
-                self.assertEqual(circle(n, flat(pairs)), searched(n, pairs), (n, pairs))
+        for n, pairs in acquaintances_of_up_to_five():
+            self.assertEqual(circle(n, flat(pairs)), searched(n, pairs), (n, pairs))
 
     def test_acquaintances_by_many_rules_of_six_to_eight_guests(self):
-        for n, times, plus, parts in itertools.product((6, 7, 8), range(5), range(5), (5, 7, 11)):
-            for few in range(1, parts):
-                pairs = [
-                    # The greater guest is told first, so that this way round is searched as well.
-                    (other, one) for one, other in all_pairs(range(n))
-                    if (times * one * other + plus * (one + other) + one * one + other * other) % parts < few
-                ]
-                self.assertEqual(circle(n, flat(pairs)), searched(n, pairs), (n, pairs))
+        for n, pairs in acquaintances_by_rules():
+            self.assertEqual(circle(n, flat(pairs)), searched(n, pairs), (n, pairs))
 
 
 class Corners(unittest.TestCase):
@@ -151,100 +118,21 @@ class Corners(unittest.TestCase):
         self.assertEqual(circle(2, [1, 0] * 28), [2, 3])
 
 
-class Refused(unittest.TestCase):
-    def test_too_few_or_too_many_guests(self):
-        for n in (0, 9, 10, 255, 256, 4294967295):
-            for pairs in ([], [0, 1], [0], [0, 0], [0, 1] * 30):
-                self.assertEqual(circle(n, pairs), REFUSED, (n, pairs))
+class Asked(AllAsked, unittest.TestCase):
+    asked = staticmethod(circle)
 
-    def test_one_and_eight_guests_are_not_too_few_or_too_many(self):
+
+class NotRefused(unittest.TestCase):
+    def test_one_and_eight_guests(self):
         self.assertEqual(circle(1, []), [1, 1])
         self.assertEqual(circle(8, [0, 7]), [2, 129])
 
-    def test_an_odd_list(self):
-        for length in range(1, 61, 2):
-            self.assertEqual(circle(8, ([0, 1] * 30)[:length]), REFUSED, length)
-
-    def test_more_than_28_pairs(self):
-        for told in (29, 30):
-            self.assertEqual(circle(8, [0, 1] * told), REFUSED, told)
-        self.assertEqual(circle(8, flat(all_pairs(range(8))) + [0, 1]), REFUSED)
-
-    def test_a_guest_that_is_not_there(self):
-        for n in range(1, 9):
-            for absent in (n, n + 1, 255):
-                self.assertEqual(circle(n, [0, absent]), REFUSED, (n, absent))
-                self.assertEqual(circle(n, [absent, 0]), REFUSED, (n, absent))
-                self.assertEqual(circle(n, [absent, absent + 1 if absent < 255 else 0]), REFUSED, (n, absent))
-
-    def test_the_last_guest_is_there(self):
+    def test_the_last_guest(self):
         for n in range(2, 9):
             self.assertEqual(circle(n, [n - 1, 0]), [2, 1 + 2 ** (n - 1)])
 
-    def test_a_pair_of_one_guest(self):
-        for n in range(1, 9):
-            for guest in range(n):
-                self.assertEqual(circle(n, [guest, guest]), REFUSED, (n, guest))
-
-    def test_a_wrong_pair_wherever_it_stands(self):
-        for wrong in ([2, 2], [0, 3], [3, 0], [255, 1], [1, 255]):
-            for place in range(28):
-                pairs = [0, 1] * place + wrong + [1, 2] * (27 - place)
-                self.assertEqual(circle(3, pairs), REFUSED, (wrong, place))
-
-    def test_guests_alike_in_neighbouring_pairs_are_no_pair_of_one(self):
+    def test_guests_alike_in_neighbouring_pairs(self):
         self.assertEqual(circle(3, [0, 1, 1, 2]), [2, 3])
-
-
-class WhatIsHandedIn(unittest.TestCase):
-    CALLS = (
-        (1, []),
-        (5, [0, 1, 1, 2, 2, 3, 3, 4, 4, 0]),
-        (4, [3, 1, 1, 3, 2, 1, 3, 2]),
-        (8, flat(itertools.combinations(range(8), 2))),
-        (0, [0, 1]),
-        (3, [0, 1, 2]),
-        (3, [0, 1, 2, 2]),
-        (3, [0, 1, 2, 3]),
-        (8, [0, 1] * 30),
-    )
-
-    def test_stays_as_it_was(self):
-        for n, pairs in self.CALLS:
-            handed = list(pairs)
-            circle(n, handed)
-            self.assertEqual(handed, pairs, n)
-
-    def test_is_not_changed_for_a_while_either(self):
-        for n, pairs in self.CALLS:
-            self.assertEqual(circle(n, Unchanging(pairs)), circle(n, pairs), (n, pairs))
-
-    def test_a_second_call_answers_the_same(self):
-        first = [circle(n, list(pairs)) for n, pairs in self.CALLS]
-        again = [circle(n, list(pairs)) for n, pairs in reversed(self.CALLS)]
-        self.assertEqual(first, again[::-1])
-
-    def test_a_changed_answer_does_not_come_back(self):
-        for n, pairs in self.CALLS:
-            answer = circle(n, pairs)
-            before = list(answer)
-            answer.append(7)
-            answer[0] = 99
-            self.assertEqual(circle(n, pairs), before, (n, pairs))
-
-
-class Kinds(unittest.TestCase):
-    def test_a_list_of_whole_numbers(self):
-        for n, pairs in WhatIsHandedIn.CALLS:
-            answer = circle(n, pairs)
-            self.assertIs(type(answer), list, (n, pairs))
-            for number in answer:
-                self.assertIs(type(number), int, (n, pairs))
-
-    def test_one_number_if_refused_and_else_two(self):
-        for n, pairs in WhatIsHandedIn.CALLS:
-            answer = circle(n, pairs)
-            self.assertEqual(len(answer), 1 if answer[0] < 0 else 2, (n, pairs))
 
 
 if __name__ == "__main__":
