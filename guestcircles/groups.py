@@ -22,6 +22,16 @@ def strange(n, pairs):
     return [how_many(group), group]
 
 
+def threes(n, pairs):
+    """How many threes are circles, how many are strangers, and the least circle of three or 0; or -22 alone."""
+    if not is_as_told(n, pairs):
+        return [NOT_AS_TOLD]
+    known = known_by_each(n, pairs)
+    circles = circles_of(3, known)
+    strangers = circles_of(3, unknown_to_each(known))
+    return [len(circles), len(strangers), min(circles, default=0)]
+
+
 def is_as_told(n, pairs):
     """Whether there are 1 to 8 guests, and each pair is of two different ones of them."""
     if n < 1 or n > MOST_GUESTS:
@@ -67,6 +77,16 @@ def largest_circle(known):
         if how_many(group) > how_many(largest) and is_circle(group, known):
             largest = group
     return largest
+
+
+def circles_of(k, known):
+    """All groups of k in which everybody knows everybody else, their numbers rising."""
+    return [group for group in groups_of(k, len(known)) if is_circle(group, known)]
+
+
+def groups_of(k, n):
+    """All groups of k out of n guests, their numbers rising."""
+    return [group for group in range(1 << n) if how_many(group) == k]
 
 
 def is_circle(group, known):

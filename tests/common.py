@@ -17,6 +17,12 @@ def all_pairs(guests):
     return list(itertools.combinations(guests, 2))
 
 
+def not_told(n, pairs):
+    """All pairs of n guests but those that are told, whichever way round."""
+    told = {frozenset(pair) for pair in pairs}
+    return [pair for pair in all_pairs(range(n)) if frozenset(pair) not in told]
+
+
 def bits(group):
     return sum(2 ** guest for guest in group)
 

@@ -3,7 +3,7 @@
 import itertools
 import unittest
 
-from common import AllAsked, acquaintances_by_rules, acquaintances_of_up_to_five, all_pairs, bits, flat
+from common import AllAsked, acquaintances_by_rules, acquaintances_of_up_to_five, all_pairs, bits, flat, not_told
 from guestcircles.groups import circle, strange
 
 
@@ -18,12 +18,6 @@ def searched(n, pairs):
         if strangers:
             return [size, min(strangers)]
     raise AssertionError("one guest is always strangers")
-
-
-def not_told(n, pairs):
-    """All pairs of n guests but those that are told, whichever way round."""
-    told = {frozenset(pair) for pair in pairs}
-    return [pair for pair in all_pairs(range(n)) if frozenset(pair) not in told]
 
 
 class Ordinary(unittest.TestCase):
