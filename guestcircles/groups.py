@@ -1,6 +1,7 @@
 """Groups among guests, each group told as bits: bit 0 for guest 0."""
 
 NOT_AS_TOLD = -22
+FEWER_GUESTS = -33
 MOST_GUESTS = 8
 MOST_PAIRS = 28
 
@@ -30,6 +31,18 @@ def threes(n, pairs):
     circles = circles_of(3, known)
     strangers = circles_of(3, unknown_to_each(known))
     return [len(circles), len(strangers), min(circles, default=0)]
+
+
+def fewest(n, k, pairs):
+    """How many the group of k lacks that lacks fewest, then it, of like ones the least number; or -22 or -33 alone."""
+    if not is_as_told(n, pairs) or k > MOST_GUESTS:
+        return [NOT_AS_TOLD]
+    if k > n:
+        return [FEWER_GUESTS]
+    unknown = unknown_to_each(known_by_each(n, pairs))
+    answers = [[lacked(group, unknown), group] for group in groups_of(k, n)]
+    # Lists are compared number by number: where as many are lacked, by the group's.
+    return min(answers)
 
 
 def is_as_told(n, pairs):
@@ -98,6 +111,17 @@ def is_circle(group, known):
             if others & friends != others:
                 return False
     return True
+
+
+def lacked(group, unknown):
+    """How many introductions the group lacks: its pairs who don't know one another."""
+    seen_from_each = 0
+    for guest, strangers in enumerate(unknown):
+        oneself = 1 << guest
+        if group & oneself > 0:
+            seen_from_each += how_many(group & strangers)
+    # Both guests of a pair have seen it.
+    return seen_from_each // 2
 
 
 def how_many(group):

@@ -17,9 +17,14 @@ def all_pairs(guests):
     return list(itertools.combinations(guests, 2))
 
 
+def each_once(pairs):
+    """The pairs that are told, each once, however often and whichever way round."""
+    return {frozenset(pair) for pair in pairs}
+
+
 def not_told(n, pairs):
     """All pairs of n guests but those that are told, whichever way round."""
-    told = {frozenset(pair) for pair in pairs}
+    told = each_once(pairs)
     return [pair for pair in all_pairs(range(n)) if frozenset(pair) not in told]
 
 
@@ -27,12 +32,17 @@ def bits(group):
     return sum(2 ** guest for guest in group)
 
 
+def acquaintances_of(n):
+    """Every choice of the pairs of n guests."""
+    possible = all_pairs(range(n))
+    for told in range(2 ** len(possible)):
+        yield n, [pair for place, pair in enumerate(possible) if told >> place & 1]
+
+
 def acquaintances_of_up_to_five():
     """Every n of 1 to 5 with every choice of its pairs."""
     for n in range(1, 6):
-        possible = all_pairs(range(n))
-        for told in range(2 ** len(possible)):
-            yield n, [pair for place, pair in enumerate(possible) if told >> place & 1]
+        yield from acquaintances_of(n)
 
 
 def acquaintances_by_rules():
@@ -44,6 +54,11 @@ def acquaintances_by_rules():
                 (other, one) for one, other in all_pairs(range(n))
                 if (times * one * other + plus * (one + other) + one * one + other * other) % parts < few
             ]
+
+
+def unacquainted(group, told):
+    """How many pairs of the group aren't among those told, each of these once."""
+    return sum(frozenset(pair) not in told for pair in all_pairs(group))
 
 
 class Unchanging(list):
